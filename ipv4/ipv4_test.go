@@ -7,6 +7,7 @@ import (
 	"testing"
 
 	"doorman/ipv4"
+	"doorman/vary"
 )
 
 // texts are all texts of at most long bytes of a set.
@@ -22,24 +23,6 @@ func texts(set string, long int) []string {
 		all, last = append(all, next...), next
 	}
 	return all
-}
-
-// changed are the texts that one byte more, one less, or another one at its place makes of a text.
-func changed(s string) []string {
-	var l []string
-	for i := range len(s) + 1 {
-		for c := range 256 {
-			x := string([]byte{byte(c)})
-			l = append(l, s[:i]+x+s[i:])
-			if i < len(s) {
-				l = append(l, s[:i]+x+s[i+1:])
-			}
-		}
-		if i < len(s) {
-			l = append(l, s[:i]+s[i+1:])
-		}
-	}
-	return l
 }
 
 // addresses are those whose bytes are at an edge, each power of two with its neighbours, and many spread over all.
@@ -154,7 +137,7 @@ func TestV41ParseOfManyTexts(t *testing.T) {
 	l = append(l, texts("256.", 9)...)
 	l = append(l, texts("0.a", 9)...)
 	for _, s := range []string{"0.0.0.0", "1.2.3.4", "10.20.30.40", "99.100.25.249", "127.0.0.1", "255.255.255.255", "192.168.205.2", "1.2.3", "1.2.3.4.5", "1..2.3"} {
-		l = append(l, changed(s)...)
+		l = append(l, vary.Texts(s)...)
 	}
 	accepted := 0
 	for _, s := range l {

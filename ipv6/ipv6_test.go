@@ -8,6 +8,7 @@ import (
 	"testing"
 
 	"doorman/ipv6"
+	"doorman/vary"
 )
 
 // groups are the eight groups of an address, the highest first.
@@ -279,24 +280,6 @@ func joined(parts []string, most int) []string {
 	return all
 }
 
-// changed are the texts that one byte more, one less, or another one at its place makes of a text.
-func changed(s string) []string {
-	var l []string
-	for i := range len(s) + 1 {
-		for c := range 256 {
-			x := string([]byte{byte(c)})
-			l = append(l, s[:i]+x+s[i:])
-			if i < len(s) {
-				l = append(l, s[:i]+x+s[i+1:])
-			}
-		}
-		if i < len(s) {
-			l = append(l, s[:i]+s[i+1:])
-		}
-	}
-	return l
-}
-
 func TestV61ParseOfManyTexts(t *testing.T) {
 	var l []string
 	l = append(l, joined([]string{"", "b", "1.2.3.4"}, 10)...)
@@ -307,7 +290,7 @@ func TestV61ParseOfManyTexts(t *testing.T) {
 		"::1.2.3.4", "::ffff:100.25.0.249", "1:2:3:4:5:6:1.2.3.4", "1:2:3:4:5::1.2.3.4", "1.2.3.4", "1.2.3.4::", "1:2:3:4:5:6:7", "1:2:3:4:5:6:7:8:9", "1::2::3", "1:2:3:4::5:6:7:8",
 	} {
 		l = append(l, s)
-		l = append(l, changed(s)...)
+		l = append(l, vary.Texts(s)...)
 	}
 	accepted := 0
 	for _, s := range l {
